@@ -1,0 +1,1 @@
+"""Trails by rules: pentrail.world.answers is the way in."""

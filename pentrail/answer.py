@@ -1,0 +1,14 @@
+"""An answer: a number, a list of whole numbers and a text."""
+
+
+class Answer:
+    def __init__(self, number, listed=(), text=()):
+        self.number = number
+        self.listed = list(listed)
+        self.text = list(text)
+
+    # The counts stand beside a refusal that has a list too: only an answer without both is its number alone.
+    def flat(self):
+        if not self.listed and not self.text:
+            return [self.number]
+        return [self.number, len(self.listed)] + self.listed + [len(self.text)] + self.text
