@@ -1,6 +1,6 @@
 """The calls that ask of a generation: length, count, slice."""
 
-from pentrail.answer import Answer
+from pentrail.answer import number_alone, with_list, with_text
 from pentrail.rows import is_sign
 
 LAST_GENERATION = 64
@@ -23,20 +23,20 @@ def refusal(world, g, rightly_asked):
 def length_answer(world, g):
     refused = refusal(world, g, True)
     if refused < 0:
-        return Answer(refused)
-    return Answer(0, [world.length_at(g)])
+        return number_alone(refused)
+    return with_list(0, [world.length_at(g)])
 
 
 def count_answer(world, g, sign):
     refused = refusal(world, g, is_sign(sign))
     if refused < 0:
-        return Answer(refused)
-    return Answer(0, [world.tally_at(g).get(sign, 0)])
+        return number_alone(refused)
+    return with_list(0, [world.tally_at(g).get(sign, 0)])
 
 
 def slice_answer(world, g, first, n):
     refused = refusal(world, g, n <= LONGEST_SLICE)
     if refused < 0:
-        return Answer(refused)
+        return number_alone(refused)
     signs = world.signs_at(g)[first:first + n]
-    return Answer(len(signs), [], signs)
+    return with_text(signs)

@@ -1,6 +1,6 @@
 """The calls that make a world or write it: start, row, rule, read, write."""
 
-from pentrail.answer import Answer
+from pentrail.answer import number_alone, with_list, with_text
 from pentrail.rows import TURN_COUNTS, is_letter, is_row
 from pentrail.worldtext import TextFault, read_text, text_of
 
@@ -9,38 +9,38 @@ LONGEST_TEXT = 65536
 
 def start_answer(world, turns):
     if turns not in TURN_COUNTS:
-        return Answer(-1)
+        return number_alone(-1)
     world.become(turns, [], {})
-    return Answer(0)
+    return number_alone(0)
 
 
 def row_answer(world, text):
     if not is_row(text, world.turns):
-        return Answer(-3)
+        return number_alone(-3)
     world.set_row(text)
-    return Answer(0)
+    return number_alone(0)
 
 
 def rule_answer(world, letter, text):
     if not is_letter(letter):
-        return Answer(-1)
+        return number_alone(-1)
     if not is_row(text, world.turns):
-        return Answer(-3)
+        return number_alone(-3)
     world.set_rule(letter, text)
-    return Answer(0)
+    return number_alone(0)
 
 
 def read_answer(world, text):
     if len(text) > LONGEST_TEXT:
-        return Answer(-1)
+        return number_alone(-1)
     try:
         parts = read_text(text)
     except TextFault as fault:
-        return Answer(-3, [fault.place])
+        return with_list(-3, [fault.place])
     world.become(parts[0], parts[1], parts[2])
-    return Answer(0)
+    return number_alone(0)
 
 
 def write_answer(world):
     text = text_of(world.turns, world.first_row, world.rules)
-    return Answer(len(text), [], text)
+    return with_text(text)

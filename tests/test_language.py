@@ -68,6 +68,13 @@ def is_plain(value, functions):
     return isinstance(value, ast.Constant)
 
 
+def is_plain_default(value):
+    """A whole number, a text, True, False or None; what is made of parts is none, an empty tuple neither."""
+    if isinstance(value, ast.UnaryOp) and isinstance(value.op, ast.USub):
+        return isinstance(value.operand, ast.Constant) and type(value.operand.value) is int
+    return isinstance(value, ast.Constant) and type(value.value) in (int, str, bool, type(None))
+
+
 def called(node):
     return node.func.id if isinstance(node, ast.Call) and isinstance(node.func, ast.Name) else None
 
@@ -157,7 +164,7 @@ def functions_at_fault(module):
         given = node.args
         if given.vararg or given.kwarg or given.kwonlyargs or given.posonlyargs:
             yield ("L4", node.lineno)
-        if not all(is_plain(value, module.functions) for value in given.defaults):
+        if not all(is_plain_default(value) for value in given.defaults):
             yield ("L4", node.lineno)
         if isinstance(node, ast.Lambda):
             continue
@@ -451,6 +458,16 @@ L3 a.py|if True:;    x = 1
 L4 a.py|def f(*xs):;    return xs
 L4 a.py|def f(x, *, y):;    return x
 L4 a.py|def f(x=len("")):;    return x
+L4 a.py|def f(x=()):;    return x
+L4 a.py|def f(x, y=(1, 2)):;    return x
+L4 a.py|def f(x=[]):;    return x
+L4 a.py|def f(x={}):;    return x
+L4 a.py|def f(x=1, y={1: 2}):;    return x
+L4 a.py|def f(x=-y):;    return x
+L4 a.py|def g():;    return 1;def f(x=g):;    return x
+L4 a.py|def f(x):;    return sorted(x, key=lambda y=(): y)
+L4 a.py|class C:;    def __init__(self, x=()):;        self.x = x
+L4 a.py|class C:;    def put(self, x=[]):;        self.x = x
 L5 a.py|class C(int):;    pass
 L5 a.py|class C:;    x = 1
 L5 a.py|class C:;    def __add__(self, other):;        return 1
@@ -539,8 +556,9 @@ class TheChecks(unittest.TestCase):
         source = '\n'.join((
             '"""A file."""', '', 'from pentrail.b import y', '', 'LIST = [1, (2, 3)]', 'BELOW = -1', '', '',
             'class Refused(ValueError):', '    def __init__(self, place):', '        self.place = place', '', '',
-            'class Box:', '    def __init__(self, held=()):', '        self.held = list(held)', '',
-            '    def put(self, x):', '        self.held.append(x)', '        self.held[0] += 2 ** 64', '', '',
+            'class Box:', '    def __init__(self, held, most=-1, name="", full=False):',
+            '        self.held = list(held)', '',
+            '    def put(self, x=None):', '        self.held.append(x)', '        self.held[0] += 2 ** 64', '', '',
             'def walk(xs, d):', '    found = [x * y for x in xs if x is not None]', '    box = Box(found)',
             '    for k, x in enumerate(xs, start=1):', '        box.put(k + x)', '    try:', '        walk(xs, d)',
             '    except Refused as e:', '        return e.place', '    if BELOW in LIST or not xs:',
