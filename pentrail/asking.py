@@ -1,23 +1,12 @@
-"""The calls that ask of a generation: length, count, slice."""
+"""The calls that ask for the signs of a generation: length, count, slice, find, often."""
 
 from pentrail.answer import number_alone, with_list, with_text
+from pentrail.patterns import places_of
+from pentrail.refusing import refusal
 from pentrail.rows import is_sign
 
-LAST_GENERATION = 64
-# 2^64
-FEWEST_THAT_DO_NOT_FIT = 18446744073709551616
 LONGEST_SLICE = 10000
-
-
-# 0 if nothing is refused. The order is the document's: what is handed over is judged ahead of the fit.
-def refusal(world, g, rightly_asked):
-    if g > LAST_GENERATION:
-        return -1
-    if not rightly_asked:
-        return -2
-    if world.length_at(g) >= FEWEST_THAT_DO_NOT_FIT:
-        return -7
-    return 0
+LONGEST_PATTERN = 64
 
 
 def length_answer(world, g):
@@ -38,5 +27,25 @@ def slice_answer(world, g, first, n):
     refused = refusal(world, g, n <= LONGEST_SLICE)
     if refused < 0:
         return number_alone(refused)
-    signs = world.signs_at(g)[first:first + n]
-    return with_text(signs)
+    return with_text(world.signs_at(g)[first:first + n])
+
+
+def is_pattern(w):
+    return 1 <= len(w) <= LONGEST_PATTERN
+
+
+def find_answer(world, g, w, first):
+    refused = refusal(world, g, is_pattern(w))
+    if refused < 0:
+        return number_alone(refused)
+    places = places_of(w, world.signs_at(g), first)
+    if not places:
+        return number_alone(0)
+    return with_list(1, [places[0]])
+
+
+def often_answer(world, g, w):
+    refused = refusal(world, g, is_pattern(w))
+    if refused < 0:
+        return number_alone(refused)
+    return with_list(0, [len(places_of(w, world.signs_at(g), 0))])

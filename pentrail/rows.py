@@ -4,6 +4,9 @@ TURN_COUNTS = (3, 4, 5, 6, 8, 10, 12)
 
 LONGEST_ROW = 255
 
+GO = 62
+TURN_MORE = 43
+TURN_LESS = 45
 HALF_ROUND = 124
 KEEP = 91
 GO_BACK = 93
@@ -11,8 +14,13 @@ GO_BACK = 93
 SIGNS_BESIDE_LETTERS = (62, 43, 45, 124, 91, 93)
 
 
+# A to Z
+def is_step(byte):
+    return 65 <= byte <= 90
+
+
 def is_letter(byte):
-    return 65 <= byte <= 90 or 97 <= byte <= 122
+    return is_step(byte) or 97 <= byte <= 122
 
 
 def is_sign(byte):

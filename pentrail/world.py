@@ -1,6 +1,7 @@
 """The calls on one new world, as one list of whole numbers, and their answers as another."""
 
-from pentrail.asking import count_answer, length_answer, slice_answer
+from pentrail.asking import count_answer, find_answer, length_answer, often_answer, slice_answer
+from pentrail.going import drawn_answer, far_answer, meets_answer, round_answer, walk_answer, where_answer
 from pentrail.making import read_answer, row_answer, rule_answer, start_answer, write_answer
 from pentrail.store import World
 
@@ -12,6 +13,14 @@ WRITE = 5
 LENGTH = 6
 COUNT = 7
 SLICE = 8
+FIND = 9
+OFTEN = 10
+WHERE = 11
+DRAWN = 12
+FAR = 13
+ROUND = 14
+MEETS = 15
+WALK = 16
 
 
 class NoSuchCall(ValueError):
@@ -56,16 +65,39 @@ def asking_call(world, call, cursor):
         return length_answer(world, g)
     if call == COUNT:
         return count_answer(world, g, cursor.take())
-    first = cursor.take()
-    return slice_answer(world, g, first, cursor.take())
+    if call == SLICE:
+        first = cursor.take()
+        return slice_answer(world, g, first, cursor.take())
+    if call == FIND:
+        first = cursor.take()
+        return find_answer(world, g, cursor.take_text(), first)
+    return often_answer(world, g, cursor.take_text())
+
+
+def going_call(world, call, cursor):
+    g = cursor.take()
+    if call == ROUND:
+        return round_answer(world, g)
+    number = cursor.take()
+    if call == WHERE:
+        return where_answer(world, g, number)
+    if call == DRAWN:
+        return drawn_answer(world, g, number)
+    if call == FAR:
+        return far_answer(world, g, number)
+    if call == MEETS:
+        return meets_answer(world, g, number)
+    return walk_answer(world, g, number, cursor.take())
 
 
 def one_call(world, cursor):
     call = cursor.take()
     if START <= call <= WRITE:
         return making_call(world, call, cursor)
-    if LENGTH <= call <= SLICE:
+    if LENGTH <= call <= OFTEN:
         return asking_call(world, call, cursor)
+    if WHERE <= call <= WALK:
+        return going_call(world, call, cursor)
     raise NoSuchCall(f"{call}")
 
 

@@ -3,19 +3,16 @@
 import random
 import unittest
 
-from helper import (LETTERS, SIGNS, ask, count, done, last, length, listed, read, row, rule, slice_of, start,
-                    text_told, write)
+from helper import (BIG, DOUBLED, LETTERS, SIGNS, ask, count, done, last, length, listed, read, row, rule, slice_of,
+                    start, text_told, write)
 
 # Generation g has 2^g A and 2^g - 1 b.
 ALL_BUT_ONE = "4\nA\nA=AAb\n"
-# Generation g has 2^g signs.
-DOUBLED = "4\nA\nA=AA\n"
 # Each of A to I becomes the next letter 255 times and J becomes nothing: generation 9 doesn't fit, 10 is + alone.
 LETTERS_DOWN = "".join(f"{LETTERS[k]}={LETTERS[k + 1] * 255}\n" for k in range(9))
 ERASED = "4\nA+\n" + LETTERS_DOWN + "J=\n"
 NO_SIGNS = [byte for byte in range(256) if chr(byte) not in SIGNS]
 FAR_NUMBERS = (256, 256 + 65, 65536 + 65, 4294967295)
-BIG = 4294967295
 
 
 class Length(unittest.TestCase):

@@ -1,7 +1,9 @@
 """That the package keeps to LANGUAGE.md, as far as its files show it.
 
-Where a rule allows a form that the package has no need of, the check may refuse the form altogether:
-sets and annotations (L13, L21, L24) are such forms.
+Where a rule allows a form that the package has no need of, the check may refuse the form altogether: functions within
+functions (L4), sets (L13, L24), `raise .. from` (L19), annotations (L21) and methods with two underscores beside
+`__init__` (L28) are such forms. L9 is held to by L2 and L8, which leave no way to read or print; of L11, that sets are
+out leaves nothing that a file could show.
 """
 
 import ast
@@ -147,7 +149,8 @@ def imports_at_fault(module):
 def top_at_fault(module):
     for place, node in enumerate(module.tree.body):
         if isinstance(node, ast.Assign):
-            if not isinstance(node.targets[0], ast.Name) or not is_plain(node.value, module.functions):
+            above = [part.name for part in module.tree.body[:place] if isinstance(part, ast.FunctionDef)]
+            if not isinstance(node.targets[0], ast.Name) or not is_plain(node.value, above):
                 yield ("L3", node.lineno)
             elif any(isinstance(part, (ast.List, ast.Dict)) for part in list(ast.walk(node.value))[1:]):
                 yield ("L15", node.lineno)
@@ -168,6 +171,8 @@ def functions_at_fault(module):
             yield ("L4", node.lineno)
         if isinstance(node, ast.Lambda):
             continue
+        if not isinstance(module.parents[node], (ast.Module, ast.ClassDef)):
+            yield ("L4", node.lineno)
         if node.decorator_list:
             yield ("L4", node.lineno)
         if node.end_lineno - node.lineno + 1 > 40:
@@ -176,6 +181,12 @@ def functions_at_fault(module):
             yield ("L21", node.lineno)
         if node.name == "__init__" and any(isinstance(part, ast.Return) for part in ast.walk(node)):
             yield ("L28", node.lineno)
+        if node.name in DUNDERS - {"__init__"}:
+            yield ("L28", node.lineno)
+    seen = [(node.lineno, ast.unparse(node.args)) for node in nodes(module.tree, ast.Lambda)]
+    for line, given in seen:
+        if seen.count((line, given)) > 1:
+            yield ("L13", line)
 
 
 def classes_at_fault(module, package_classes):
@@ -202,7 +213,8 @@ def statements_at_fault(module):
     for node in nodes(module.tree, ast.stmt):
         if not isinstance(node, STATEMENTS):
             yield ("L6", node.lineno)
-        elif isinstance(node, ast.Assign) and len(node.targets) > 1:
+        elif isinstance(node, ast.Assign) and (len(node.targets) > 1
+                                               or isinstance(node.targets[0], (ast.Tuple, ast.List))):
             yield ("L6", node.lineno)
         elif isinstance(node, (ast.For, ast.While)) and node.orelse:
             yield ("L6", node.lineno)
@@ -257,6 +269,8 @@ def all_names(module):
             yield (node.attr, node.lineno, False)
         elif isinstance(node, ast.keyword):
             yield (node.arg or "*", node.lineno, False)
+        elif isinstance(node, ast.alias):
+            yield (node.asname or node.name, node.lineno, False)
 
 
 def names_at_fault(module):
@@ -268,9 +282,13 @@ def names_at_fault(module):
             yield ("L17", line)
         if binds and name in taken | PYTHONS_OWN:
             yield ("L15", line)
+        if binds and name in FORBIDDEN_NAMES:
+            yield ("L17", line)
     for name in module.functions + module.classes + module.constants:
         if name in PYTHONS_OWN:
             yield ("L8", 0)
+        if name in FORBIDDEN_NAMES:
+            yield ("L17", 0)
     for node in nodes(module.tree, ast.Name):
         if node.id in FORBIDDEN_NAMES:
             yield ("L17", node.lineno)
@@ -278,12 +296,32 @@ def names_at_fault(module):
             yield ("L8", node.lineno)
 
 
-def calls_at_fault(module):
+def is_right_keyword(keyword):
+    if keyword.arg in ("reverse", "strict"):
+        return isinstance(keyword.value, ast.Constant) and type(keyword.value.value) is bool
+    if keyword.arg == "key":
+        name = keyword.value.id if isinstance(keyword.value, ast.Name) else ""
+        return name not in PYTHONS_OWN - set("len int str abs sum min max tuple".split())
+    return True
+
+
+def is_right_kind(kind, package_classes):
+    names = kind.elts if isinstance(kind, ast.Tuple) else [kind]
+    known = package_classes | ERRORS | set("int str bool list tuple dict".split())
+    return all(isinstance(name, ast.Name) and name.id in known for name in names)
+
+
+def calls_at_fault(module, package_classes):
     for node in nodes(module.tree, ast.Call):
         name = called(node) or called_method(node)
         own = called(node) in PYTHONS_OWN or called_method(node) in METHODS
         allowed = KEYWORDS.get(called(node), set())
         if own and any(keyword.arg not in allowed for keyword in node.keywords):
+            yield ("L22", node.lineno)
+        for keyword in node.keywords:
+            if own and not is_right_keyword(keyword):
+                yield ("L22", node.lineno)
+        if called(node) == "isinstance" and not is_right_kind(node.args[1], package_classes):
             yield ("L22", node.lineno)
         if called(node) in ("set", "frozenset"):
             yield ("L24", node.lineno)
@@ -328,11 +366,6 @@ def changes_at_fault(module):
     for name, line in changed_in(module.tree):
         if name in module.constants:
             yield ("L15", line)
-    kept = [node.targets[0].id for node in module.tree.body
-            if isinstance(node, ast.Assign) and isinstance(node.value, (ast.List, ast.Dict))]
-    for node in nodes(module.tree, ast.Return):
-        if isinstance(node.value, ast.Name) and node.value.id in kept:
-            yield ("L15", node.lineno)
     for loop in nodes(module.tree, ast.For):
         walked = {ast.unparse(part) for part in ast.walk(loop.iter) if isinstance(part, (ast.Name, ast.Attribute))}
         if called(loop.iter) in ("range", "list", "sorted"):
@@ -345,6 +378,44 @@ def changes_at_fault(module):
         if isinstance(node.ctx, ast.Store):
             if not isinstance(node.value, ast.Name) or node.value.id in module.bound():
                 yield ("L18", node.lineno)
+
+
+def kept_at_top(modules):
+    """The names of lists and dicts at the top of files."""
+    return {node.targets[0].id for module in modules for node in module.tree.body
+            if isinstance(node, ast.Assign) and isinstance(node.value, (ast.List, ast.Dict))
+            and isinstance(node.targets[0], ast.Name)}
+
+
+def only_read(node, parent):
+    if isinstance(parent, ast.Subscript):
+        return parent.value == node and isinstance(parent.ctx, ast.Load)
+    if isinstance(parent, (ast.For, ast.comprehension)):
+        return parent.iter == node
+    if isinstance(parent, ast.Attribute):
+        return parent.attr in ("get", "items", "keys", "values", "index", "count", "copy")
+    return isinstance(parent, ast.Compare) or called(parent) in WALKERS | {"len", "reversed"}
+
+
+def kept_at_fault(module, kept):
+    for node in nodes(module.tree, ast.Name):
+        if node.id in kept and isinstance(node.ctx, ast.Load) and not only_read(node, module.parents[node]):
+            yield ("L15", node.lineno)
+
+
+def shown_classes_at_fault(module, package_classes):
+    for node in nodes(module.tree, ast.Name):
+        parent = module.parents[node]
+        if isinstance(parent, ast.Tuple):
+            node, parent = parent, module.parents[parent]
+        shown = not isinstance(parent, (ast.ExceptHandler, ast.ClassDef, ast.Raise)) and called(parent) != "isinstance"
+        if shown and isinstance(parent, ast.Call):
+            shown = parent.func != node
+        if isinstance(parent, ast.Attribute) and parent.attr == "__init__":
+            shown = False
+        names = {part.id for part in ast.walk(node) if isinstance(part, ast.Name)}
+        if shown and names & (package_classes | ERRORS):
+            yield ("L18", node.lineno)
 
 
 def errors_at_fault(module, package_errors):
@@ -360,7 +431,7 @@ def errors_at_fault(module, package_errors):
         if not own_alone and (len(node.body) > 1 or len(nodes(node.body[0], ast.Call)) > 1):
             yield ("L19", node.lineno)
     for node in nodes(module.tree, ast.Raise):
-        if called(node.exc) not in package_errors | ERRORS:
+        if called(node.exc) not in package_errors | ERRORS or node.cause is not None:
             yield ("L19", node.lineno)
 
 
@@ -368,6 +439,9 @@ def package_at_fault(modules):
     """What only all the files together show."""
     by_name = {f"pentrail.{module.name}": module for module in modules}
     draws = {name: {file for file, drawn in module.imports} for name, module in by_name.items()}
+    for module in modules:
+        if module.name == "__init__" and set(module.bound()) & {other.name for other in modules}:
+            yield ("L16", "__init__.py")
     for name, module in by_name.items():
         for file, drawn in module.imports:
             there = by_name.get(file)
@@ -419,10 +493,11 @@ def all_faults(sources):
     found = list(files_at_fault(list(sources))) + list(package_at_fault(modules))
     for module in modules:
         for check in (signs_at_fault, imports_at_fault, top_at_fault, functions_at_fault, statements_at_fault,
-                      expressions_at_fault, names_at_fault, calls_at_fault, changes_at_fault):
+                      expressions_at_fault, names_at_fault, changes_at_fault):
             found += [(rule, f"{module.name}.py", place) for rule, place in check(module)]
-        for check, known in ((classes_at_fault, classes), (methods_at_fault, method_names(modules)),
-                             (errors_at_fault, error_names(modules))):
+        for check, known in ((classes_at_fault, classes), (calls_at_fault, classes), (shown_classes_at_fault, classes),
+                             (methods_at_fault, method_names(modules)), (errors_at_fault, error_names(modules)),
+                             (kept_at_fault, kept_at_top(modules))):
             found += [(rule, f"{module.name}.py", place) for rule, place in check(module, known)]
     return found
 
@@ -455,8 +530,10 @@ L16 a.py|from pentrail.b import missing
 L16 a.py|from pentrail.c import z
 L3 a.py|x = len("a")
 L3 a.py|if True:;    x = 1
+L3 a.py|x = (f, 1);def f():;    return 1
 L4 a.py|def f(*xs):;    return xs
 L4 a.py|def f(x, *, y):;    return x
+L4 a.py|def f(x):;    def g():;        return x;    return g()
 L4 a.py|def f(x=len("")):;    return x
 L4 a.py|def f(x=()):;    return x
 L4 a.py|def f(x, y=(1, 2)):;    return x
@@ -473,6 +550,7 @@ L5 a.py|class C:;    x = 1
 L5 a.py|class C:;    def __add__(self, other):;        return 1
 L6 a.py|def f(x):;    assert x
 L6 a.py|def f(x):;    y = z = x;    return y + z
+L6 a.py|def f(x):;    y, z = x;    return y + z
 L6 a.py|def f(x):;    while x:;        x -= 1;    else:;        x = 2
 L6 a.py|def f(x):;    with x:;        pass
 L6 a.py|def f(x):;    x + 1
@@ -493,29 +571,46 @@ L10 a.py|def f(x):LONG
 L10 a.py|x = "WIDE"
 L12 a.py|def f(x):;    for _ in x:;        pass
 L12 a.py|def _f(x):;    return x
+L12 a.py|from pentrail.b import y as _y
+L13 a.py|def f(x):;    return (lambda y: y)(x) + (lambda y: 1)(x)
 L14 a.py|# \u00e4
 L15 a.py|x = 1;x = 2
 L15 a.py|x = [[1]]
 L15 a.py|x = [1];def f():;    x.append(1)
 L15 a.py|x = {1: 1};def f():;    x[2] = 1
 L15 a.py|x = [1];def f():;    return x
+L15 a.py|x = [1];def f(y):;    y.append(x)
+L15 a.py|x = {1: 2};def f(y):;    return f(x)
+L15 a.py|x = [1];def f():;    y = x;    return y[0]
 L15 a.py|def f(next):;    return next
 L15 a.py|class C:;    pass;def f(C):;    return 1
 L16 a.py|import pentrail.b
+L16 __init__.py|b = 1
 L17 a.py|# a type
 L17 a.py|def f(x):;    return x.mro
 L17 a.py|def f(x):;    return getattr(x, "y")
+L17 a.py|def f(gc):;    return 1
+L17 a.py|def os(x):;    return 1
 L18 a.py|class C(AttributeError):;    pass
 L18 a.py|class C:;    def g(self):;        self.g = 1
 L18 a.py|class C:;    pass;def f():;    C.x = 1
+L18 a.py|class C:;    pass;def f():;    return C
+L18 a.py|class C:;    pass;def f():;    return [C]
+L18 a.py|class C:;    pass;def f(x):;    return f(C)
+L18 a.py|def f():;    return ValueError
 L19 a.py|def f(x):;    try:;        return x();    except Exception:;        return 1
 L19 a.py|def f(x):;    try:;        return x[0];    except:;        return 1
 L19 a.py|def f(x):;    try:;        y = f(x);        return x[0];    except IndexError:;        return 1
 L19 a.py|def f(x):;    raise x
+L19 a.py|def f(x):;    raise ValueError("") from x
 L20 a.py|def f(x):;    return x is f
 L21 a.py|def f(x: int):;    return x
 L22 a.py|def f(x):;    return sorted(x, key=f, other=1)
 L22 a.py|def f(x):;    y = len;    return y(x)
+L22 a.py|def f(x):;    return sorted(x, reverse=x)
+L22 a.py|def f(x):;    return sorted(x, key=ord)
+L22 a.py|def f(x, y):;    return isinstance(x, y)
+L22 a.py|def f(x):;    return x.split(sep=" ")
 L23 a.py|def f(x):;    y = x.items();    return y
 L23 a.py|def f(x):;    return zip(x, x)
 L23 a.py|def f(x):;    for y in x:;        x.append(y)
@@ -530,6 +625,7 @@ L27 a.py|def f(x):;    return 2 ** 65
 L27 a.py|x = "100%"
 L27 a.py|x = "\\x41"
 L28 a.py|class C:;    def __init__(self):;        return None
+L28 a.py|class C:;    def __len__(self):;        return 1
 """
 
 
